@@ -1,0 +1,1 @@
+"""Drawings with ruler and compasses, told exactly."""

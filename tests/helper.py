@@ -1,0 +1,124 @@
+"""What the tests share: drawings put down step by step, and doubles by their bits."""
+
+import struct
+
+NUMBER, POINT, LINE, CIRCLE = 0, 1, 2, 3
+
+INFINITE = 0x7FF0000000000000
+GREATEST = 0x7FEFFFFFFFFFFFFF
+MINUS = 0x8000000000000000
+
+LARGEST = 9223372036854775807
+
+
+def bits(double):
+    return struct.unpack("<Q", struct.pack("<d", double))[0]
+
+
+def how_many_used(op):
+    if op == 0:
+        return 0
+    return 1 if op in (5, 7, 8) else 2
+
+
+def weight(op, both):
+    """A step's weight, of that of the steps it's made of together."""
+    if op == 0:
+        return 14
+    if op in (1, 2):
+        return both + 1
+    return both * {12: 4, 13: 8, 14: 8, 16: 8, 17: 2}.get(op, 1)
+
+
+class Sheet:
+    """A drawing in the making; each method gives back its step's number."""
+
+    def __init__(self):
+        self.steps = []
+        self.weights = []
+        self.known = {}
+
+    @property
+    def p(self):
+        return [field for step in self.steps for field in step]
+
+    def put(self, op, a=0, b=0, v=0):
+        self.steps.append((op, a, b, v))
+        used = ((), (a,), (a, b))[how_many_used(op)]
+        both = sum(self.weights[step] for step in used if step < len(self.weights))
+        self.weights.append(weight(op, both))
+        return len(self.steps) - 1
+
+    def number(self, v):
+        """A step of op 0; the same step for the same v, as there are but 32."""
+        if v not in self.known:
+            self.known[v] = self.put(0, v=v)
+        return self.known[v]
+
+    def plus(self, a, b):
+        return self.put(1, a, b)
+
+    def minus(self, a, b):
+        return self.put(2, a, b)
+
+    def times(self, a, b):
+        return self.put(3, a, b)
+
+    def over(self, a, b):
+        return self.put(4, a, b)
+
+    def root(self, a):
+        return self.put(5, a)
+
+    def root_of(self, v):
+        return self.root(self.number(v))
+
+    def at(self, a, b):
+        return self.put(6, a, b)
+
+    def point(self, x, y):
+        if (x, y) not in self.known:
+            self.known[x, y] = self.at(self.number(x), self.number(y))
+        return self.known[x, y]
+
+    def line(self, a, b):
+        return self.put(9, a, b)
+
+    def circle(self, a, b):
+        return self.put(10, a, b)
+
+    def disc(self, centre, square):
+        return self.put(11, centre, self.number(square))
+
+    def power_of_two(self, exponent):
+        """2 to the exponent, by halves, so that 32 steps are enough."""
+        if exponent <= 13:
+            return self.number(1 << exponent)
+        half = self.power_of_two(exponent // 2)
+        whole = self.times(half, half)
+        return whole if exponent % 2 == 0 else self.times(whole, self.number(2))
+
+    def heavy(self, weight):
+        """A number above 0, just of that weight."""
+        way = shortest_way(weight)
+        last = self.number(1)
+        for op, twice in way:
+            last = self.put(op, last, last if twice else self.number(1))
+        return last
+
+
+def shortest_way(weight):
+    """The ops by which a number of weight 14 comes to a weight: with itself, or with another such number."""
+    rows = [(weight, ())]
+    while rows:
+        following = []
+        for left, way in rows:
+            if left == 14:
+                return way
+            if left < 28:
+                continue
+            following.append(((left - left % 2) // 2, ((1 if left % 2 else 3, True),) + way))
+            following.append((left - 14, ((3, False),) + way))
+            following.append((left - 15, ((1, False),) + way))
+        rows = list(dict(reversed(following)).items())
+    raise ValueError(f"no number weighs {weight}")
