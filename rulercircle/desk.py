@@ -2,7 +2,8 @@
 
 from rulercircle.doubles import MOST_MODE, bits_of
 from rulercircle.drawing import Drawing
-from rulercircle.steps import NUMBER, count_steps, kind_of
+from rulercircle.steps import CIRCLE, LINE, NUMBER, POINT, count_steps, kind_of, makes
+from rulercircle.telling import are_one, left_sign, number_sign, within_sign
 
 
 def kind(i, p):
@@ -18,6 +19,28 @@ def value(i, mode, p):
     drawing = Drawing(p)
     if drawing.refused:
         return drawing.refused
-    if i >= count_steps(p) or kind_of(p, i) != NUMBER or mode > MOST_MODE:
+    if not makes(p, i, NUMBER) or mode > MOST_MODE:
         return [-6]
     return [0, 1, bits_of(drawing.tower, drawing.things[i], mode)]
+
+
+def level(i, j, p):
+    drawing = Drawing(p)
+    if drawing.refused:
+        return drawing.refused
+    if makes(p, i, NUMBER) and makes(p, j, NUMBER):
+        return [1 + number_sign(drawing.tower, drawing.things[i], drawing.things[j])]
+    if makes(p, i, POINT) and makes(p, j, POINT):
+        return [1 if are_one(drawing.tower, drawing.things[i], drawing.things[j]) else 0]
+    return [-6]
+
+
+def side(i, j, p):
+    drawing = Drawing(p)
+    if drawing.refused:
+        return drawing.refused
+    if makes(p, i, LINE) and makes(p, j, POINT):
+        return [1 + left_sign(drawing.tower, drawing.things[i], drawing.things[j])]
+    if makes(p, i, CIRCLE) and makes(p, j, POINT):
+        return [1 + within_sign(drawing.tower, drawing.things[i], drawing.things[j])]
+    return [-6]

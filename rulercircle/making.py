@@ -1,11 +1,9 @@
-"""How each op makes its thing of the things a, b and of v; those that an op doesn't use it leaves alone.
+"""How each op makes its thing of the things a, b and of v; those that an op doesn't use it leaves alone."""
 
-A point and a circle are used alike where only the place is asked for: a circle's is its centre.
-"""
-
+from rulercircle.figures import chord_square, common_line, joining, leftness, length_square, refuse_no_way, way_square
 from rulercircle.refusals import Apart, BelowZero, DividedByZero, Undetermined
-from rulercircle.things import Circle, Line, Number, Point
-from rulercircle.tower import minus, plus, scaled
+from rulercircle.things import Circle, Number, Point
+from rulercircle.tower import plus, scaled
 
 
 def number_told(tower, a, b, v):
@@ -53,30 +51,10 @@ def number_y(tower, a, b, v):
     return Number(a.y, a.bottom)
 
 
-def way_ahead(tower, a, b):
-    """How far b lies to the right of a, times both bottoms."""
-    return tower.crossed(a.bottom, a.x, b.bottom, b.x)
-
-
-def way_up(tower, a, b):
-    """How far b lies above a, times both bottoms."""
-    return tower.crossed(a.bottom, a.y, b.bottom, b.y)
-
-
-def refuse_no_way(tower, ahead, rise):
-    if tower.sign(ahead) == 0 and tower.sign(rise) == 0:
-        raise Undetermined()
-
-
-def length_square(tower, ahead, rise):
-    return tower.mixed(ahead, ahead, rise, rise)
-
-
 def line_through(tower, a, b, v):
-    ahead = way_ahead(tower, a, b)
-    rise = way_up(tower, a, b)
-    refuse_no_way(tower, ahead, rise)
-    return Line(ahead, rise, tower.crossed(a.x, a.y, b.x, b.y))
+    line = joining(tower, a, b)
+    refuse_no_way(tower, line.ahead, line.rise)
+    return line
 
 
 def circle_about(tower, centre, bottom, reach):
@@ -87,8 +65,7 @@ def circle_about(tower, centre, bottom, reach):
 
 
 def circle_through(tower, a, b, v):
-    reach = length_square(tower, way_ahead(tower, a, b), way_up(tower, a, b))
-    return circle_about(tower, a, b.bottom, reach)
+    return circle_about(tower, a, b.bottom, way_square(tower, a, b))
 
 
 def circle_of_square(tower, a, b, v):
@@ -108,18 +85,12 @@ def lines_meeting(tower, a, b, v):
     return Point(scaled(x, sign), scaled(y, sign), scaled(bottom, sign))
 
 
-def leftness(tower, line, place):
-    """How far a place lies on the line's left, times its bottom and the direction's length."""
-    turned = tower.crossed(line.ahead, line.rise, place.x, place.y)
-    return plus(turned, tower.times(line.shift, place.bottom))
-
-
 def line_meeting_circle(tower, a, b, v):
-    square = length_square(tower, a.ahead, a.rise)
-    left = leftness(tower, a, b)
-    root = tower.root(minus(tower.times(b.reach, square), tower.squared(left)))
+    root = tower.root(chord_square(tower, a, b))
     if root is None:
         raise Apart()
+    square = length_square(tower, a.ahead, a.rise)
+    left = leftness(tower, a, b)
     along = root if v == 1 else scaled(root, -1)
     # From the centre straight over to the line, then along it.
     ahead = tower.mixed(along, a.ahead, left, a.rise)
@@ -127,22 +98,6 @@ def line_meeting_circle(tower, a, b, v):
     x = plus(tower.times(b.x, square), ahead)
     y = plus(tower.times(b.y, square), rise)
     return Point(x, y, tower.times(b.bottom, square))
-
-
-def origin_power(tower, circle):
-    """The square of the centre's way from (0, 0), less the radius's, times the bottom's."""
-    return minus(length_square(tower, circle.x, circle.y), circle.reach)
-
-
-def common_line(tower, a, b):
-    """The line on which the circles meet, if they do; it points to the left of the way between their centres."""
-    ahead = way_ahead(tower, a, b)
-    rise = way_up(tower, a, b)
-    refuse_no_way(tower, ahead, rise)
-    twice = scaled(tower.times(a.bottom, b.bottom), 2)
-    first = tower.times(origin_power(tower, a), tower.squared(b.bottom))
-    second = tower.times(origin_power(tower, b), tower.squared(a.bottom))
-    return Line(scaled(tower.times(rise, twice), -1), tower.times(ahead, twice), minus(second, first))
 
 
 def circles_meeting(tower, a, b, v):
@@ -165,8 +120,7 @@ def point_mirrored(tower, a, b, v):
 
 
 def number_distance(tower, a, b, v):
-    square = length_square(tower, way_ahead(tower, a, b), way_up(tower, a, b))
-    return Number(square, tower.squared(tower.times(a.bottom, b.bottom)))
+    return Number(way_square(tower, a, b), tower.squared(tower.times(a.bottom, b.bottom)))
 
 
 # By op, from 0 on.

@@ -6,6 +6,9 @@ MOST_WEIGHT = 8192
 MOST_SIZE = 9999
 
 NUMBER = 0
+POINT = 1
+LINE = 2
+CIRCLE = 3
 
 # By op, from 0 on: the kind it makes (0 number, 1 point, 2 line, 3 circle), the kinds of a and b
 # (None: not used), and how it weighs: so many times a and b, and so much more.
@@ -53,6 +56,11 @@ def v_of(p, step):
 
 def kind_of(p, step):
     return ROWS[op_of(p, step)][0]
+
+
+def makes(p, step, wanted):
+    """Whether it's a step, and makes a thing of the kind wanted."""
+    return step < count_steps(p) and kind_of(p, step) == wanted
 
 
 def field_right(p, step, field, wanted):

@@ -1,6 +1,10 @@
-"""What the tests share: drawings put down step by step, and doubles by their bits."""
+"""What the tests share: drawings put down step by step, how calls are asked, and doubles by their bits."""
 
+import copy
+import itertools
 import struct
+
+from rulercircle.desk import kind, level, side, value
 
 NUMBER, POINT, LINE, CIRCLE = 0, 1, 2, 3
 
@@ -13,6 +17,32 @@ LARGEST = 9223372036854775807
 
 def bits(double):
     return struct.unpack("<Q", struct.pack("<d", double))[0]
+
+
+def ask(call, *given):
+    """What a call answers: a list of whole numbers, and the same again, what is handed in being left as it was."""
+    before = copy.deepcopy(given)
+    answer = call(*given)
+    again = call(*given)
+    if given != before:
+        raise AssertionError(f"{call.__name__} changed what was handed in")
+    if again != answer or again is answer:
+        raise AssertionError(f"{call.__name__} keeps something")
+    if type(answer) is not list or any(type(part) is not int for part in answer):
+        raise AssertionError(f"{call.__name__} answers {answer!r}")
+    return answer
+
+
+def every_answer(p):
+    """Each call's answers to a drawing, asked for what is there and for what isn't."""
+    places = (0, len(p) // 4 - 1, len(p) // 4, LARGEST) if p else (0, LARGEST)
+    for i in places:
+        yield ask(kind, i, p)
+        for mode in (0, 3, 4, LARGEST):
+            yield ask(value, i, mode, p)
+    for i, j in itertools.product(places, repeat=2):
+        yield ask(level, i, j, p)
+        yield ask(side, i, j, p)
 
 
 def how_many_used(op):
@@ -90,6 +120,39 @@ class Sheet:
     def disc(self, centre, square):
         return self.put(11, centre, self.number(square))
 
+    def x(self, a):
+        return self.put(7, a)
+
+    def y(self, a):
+        return self.put(8, a)
+
+    def crossing(self, a, b):
+        return self.put(12, a, b)
+
+    def chord(self, line, circle, v):
+        return self.put(13, line, circle, v)
+
+    def shared(self, a, b, v):
+        return self.put(14, a, b, v)
+
+    def middle(self, a, b):
+        return self.put(15, a, b)
+
+    def mirrored(self, a, line):
+        return self.put(16, a, line)
+
+    def apex(self, first, second, v=0):
+        """The third corner of a triangle of equal sides on two points: for v 0 on the left of the way between them."""
+        return self.shared(self.circle(first, second), self.circle(second, first), v)
+
+    def heights(self, corners):
+        """The three lines from a triangle's corners straight over to the sides across."""
+        lines = []
+        for k in range(3):
+            across = self.line(corners[k - 1], corners[k - 2])
+            lines.append(self.line(corners[k], self.mirrored(corners[k], across)))
+        return lines
+
     def power_of_two(self, exponent):
         """2 to the exponent, by halves, so that 32 steps are enough."""
         if exponent <= 13:
@@ -105,6 +168,16 @@ class Sheet:
         for op, twice in way:
             last = self.put(op, last, last if twice else self.number(1))
         return last
+
+
+def two_of_each():
+    """A drawing, and by kinds its steps: two numbers, two points, two lines, two circles."""
+    sheet = Sheet()
+    numbers = [sheet.number(3), sheet.number(4)]
+    points = [sheet.at(0, 0), sheet.at(0, 1)]
+    lines = [sheet.line(*points), sheet.line(*reversed(points))]
+    circles = [sheet.circle(*points), sheet.disc(points[0], 3)]
+    return sheet.p, (numbers, points, lines, circles)
 
 
 def shortest_way(weight):

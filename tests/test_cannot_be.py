@@ -3,17 +3,13 @@
 import unittest
 
 from rulercircle.desk import kind, value
-from tests.helper import LARGEST, Sheet
+from tests.helper import LARGEST, Sheet, every_answer
 
 
 class Refusing(unittest.TestCase):
     def refused(self, p, answer):
-        before = list(p)
-        for i in (0, len(p) // 4 - 1, len(p) // 4, LARGEST):
-            self.assertEqual(kind(i, p), answer)
-            for mode in (0, 1, 2, 3, 4, LARGEST):
-                self.assertEqual(value(i, mode, p), answer)
-        self.assertEqual(p, before)
+        for given in every_answer(p):
+            self.assertEqual(given, answer)
 
     def last_refused(self, sheet, why):
         """The last step can't be, and all before it can."""
@@ -121,9 +117,7 @@ class BelowZero(Refusing):
 
 def apex(sheet):
     """The third corner of the triangle of equal sides on (0, 0), (2, 0), by circles."""
-    first = sheet.point(0, 0)
-    second = sheet.point(2, 0)
-    return sheet.put(14, sheet.circle(first, second), sheet.circle(second, first), 0)
+    return sheet.apex(sheet.point(0, 0), sheet.point(2, 0))
 
 
 class Undetermined(Refusing):

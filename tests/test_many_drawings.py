@@ -4,6 +4,7 @@ Here the things are decimals of very many digits, by the common formulas (lines 
 length 1, circles with a radius), and what is nearer to 0 than ever a drawing of that weight is, is 0.
 """
 
+import collections
 import decimal
 import fractions
 import math
@@ -11,7 +12,7 @@ import random
 import struct
 import unittest
 
-from rulercircle.desk import kind, value
+from rulercircle.desk import kind, level, side, value
 from tests.helper import CIRCLE, INFINITE, LINE, MINUS, NUMBER, POINT, bits, how_many_used, weight
 
 D = decimal.Decimal
@@ -150,6 +151,21 @@ class Decimals:
     def op17(self, a, b, v):
         return (a[0] - b[0]) ** 2 + (a[1] - b[1]) ** 2
 
+    def told(self, call, *things):
+        with decimal.localcontext(self.context):
+            return getattr(self, call)(*things)
+
+    def level(self, a, b):
+        if isinstance(a, tuple):
+            return int(self.sign(a[0] - b[0]) == 0 and self.sign(a[1] - b[1]) == 0)
+        return 1 + self.sign(a - b)
+
+    def side(self, a, b):
+        (x, y), size = a
+        if isinstance(size, tuple):
+            return 1 + self.sign(size[0] * (b[1] - y) - size[1] * (b[0] - x))
+        return 1 + self.sign(size - ((b[0] - x) ** 2 + (b[1] - y) ** 2).sqrt())
+
     def doubles(self, x):
         """The bits by modes 0 to 3."""
         with decimal.localcontext(self.context):
@@ -205,6 +221,7 @@ class Grown:
         self.weights = []
         self.roots = 0
         self.refused = 0
+        self.answers = collections.Counter()
 
     def pick(self, wanted):
         if wanted is None:
@@ -261,6 +278,24 @@ class Grown:
             if made == POINT:
                 self.point(step)
 
+    def some(self, *wanted):
+        """A step by chance that makes one of the kinds wanted; None if there's none."""
+        steps = [step for step, made in enumerate(self.kinds) if made in wanted]
+        return self.chance.choice(steps) if steps else None
+
+    def tell(self, times):
+        """The calls of several things, of so many chosen by chance."""
+        for _ in range(times):
+            self.told(level, self.some(NUMBER), self.some(NUMBER))
+            self.told(level, self.some(POINT), self.some(POINT))
+            self.told(side, self.some(LINE, CIRCLE), self.some(POINT))
+
+    def told(self, call, *steps):
+        if None not in steps:
+            wanted = self.decimals.told(call.__name__, *[self.things[step] for step in steps])
+            self.test.assertEqual(call(*steps, self.p), [wanted], (call.__name__, steps, self.p))
+            self.answers[call.__name__, wanted] += 1
+
     def point(self, step):
         if len(self.kinds) < 31:
             for op, place in ((7, 0), (8, 1)):
@@ -278,19 +313,26 @@ class Many(unittest.TestCase):
             grown = Grown(self, seed, 3000, [0, 1, 2, 3, 4, 5], (3, 40, 9999)[seed % 3], 400, 2)
             grown.grow_to(24, 60)
             grown.compare(6)
+            grown.tell(5)
 
     def test_figures(self):
         roots = 0
         refused = 0
+        answers = collections.Counter()
         for seed in range(250):
             grown = Grown(self, seed, 3000, ALL, (2, 5, 40, 9999)[seed % 4], 8192, 1 + seed % 2)
             grown.grow_to(30, 200)
             grown.compare(4)
+            grown.tell(12)
             roots += grown.roots == 3
             refused += grown.refused
+            answers += grown.answers
         # Else the drawings would be too plain to tell much.
         self.assertGreater(roots, 60)
         self.assertGreater(refused, 1000)
+        for call, most in (("level", 2), ("side", 2)):
+            for answer in range(most + 1):
+                self.assertGreater(answers[call, answer], 100, call)
 
     def test_heavy_ones(self):
         near = 0
@@ -298,6 +340,7 @@ class Many(unittest.TestCase):
             grown = Grown(self, seed, 12000, [1, 2, 3, 3, 4, 4, 5, 5], (3, 9999)[seed % 2], 8192, 4)
             grown.grow_to(32, 100)
             grown.compare(1)
+            grown.tell(2)
             near += grown.roots == 3 and max(grown.weights) > 6000
         self.assertGreater(near, 10)
 

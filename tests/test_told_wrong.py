@@ -2,20 +2,16 @@
 
 import unittest
 
-from rulercircle.desk import kind, value
-from tests.helper import LARGEST, Sheet
+from rulercircle.desk import kind
+from tests.helper import LARGEST, Sheet, every_answer
 
 
 class Refusing(unittest.TestCase):
-    """Both calls refuse alike, whatever else they are asked."""
+    """All calls refuse alike, whatever else they are asked."""
 
     def refuses(self, p, answer):
-        before = list(p)
-        for i in (0, len(p) // 4, LARGEST):
-            self.assertEqual(kind(i, p), answer)
-            for mode in (0, 3, 4, LARGEST):
-                self.assertEqual(value(i, mode, p), answer)
-        self.assertEqual(p, before)
+        for given in every_answer(p):
+            self.assertEqual(given, answer)
 
     def takes(self, p):
         self.assertIn(kind(0, p), ([0], [1], [2], [3]))
