@@ -3,7 +3,8 @@
 from rulercircle.doubles import MOST_MODE, bits_of
 from rulercircle.drawing import Drawing
 from rulercircle.steps import CIRCLE, LINE, NUMBER, POINT, count_steps, kind_of, makes
-from rulercircle.telling import are_one, left_sign, number_sign, within_sign
+from rulercircle.telling import along_sign, are_one, left_sign, number_sign, within_sign
+from rulercircle.turning import LEAST_HALVINGS, MOST_HALVINGS, pieces_of_turn
 
 
 def kind(i, p):
@@ -44,3 +45,21 @@ def side(i, j, p):
     if makes(p, i, CIRCLE) and makes(p, j, POINT):
         return [1 + within_sign(drawing.tower, drawing.things[i], drawing.things[j])]
     return [-6]
+
+
+def along(i, j, k, p):
+    drawing = Drawing(p)
+    if drawing.refused:
+        return drawing.refused
+    if not makes(p, i, LINE) or not makes(p, j, POINT) or not makes(p, k, POINT):
+        return [-6]
+    return [1 + along_sign(drawing.tower, drawing.things[i], drawing.things[j], drawing.things[k])]
+
+
+def turn(i, m, p):
+    drawing = Drawing(p)
+    if drawing.refused:
+        return drawing.refused
+    if not makes(p, i, LINE) or not LEAST_HALVINGS <= m <= MOST_HALVINGS:
+        return [-6]
+    return [0, 1, pieces_of_turn(drawing.tower, drawing.things[i], m)]

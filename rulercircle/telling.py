@@ -23,3 +23,8 @@ def within_sign(tower, circle, point):
     """Above 0 where the point lies within the circle."""
     reach = tower.times(circle.reach, tower.squared(point.bottom))
     return tower.sign(minus(reach, way_square(tower, circle, point)))
+
+
+def along_sign(tower, line, a, b):
+    """Above 0 where point a lies further on than b, as the line points."""
+    return tower.sign(tower.mixed(line.ahead, way_ahead(tower, b, a), line.rise, way_up(tower, b, a)))

@@ -4,7 +4,7 @@ import copy
 import itertools
 import struct
 
-from rulercircle.desk import kind, level, side, value
+from rulercircle.desk import along, kind, level, side, turn, value
 
 NUMBER, POINT, LINE, CIRCLE = 0, 1, 2, 3
 
@@ -13,6 +13,8 @@ GREATEST = 0x7FEFFFFFFFFFFFFF
 MINUS = 0x8000000000000000
 
 LARGEST = 9223372036854775807
+
+DIRECTIONS = [(x, y) for x in range(-3, 4) for y in range(-3, 4) if (x, y) != (0, 0)]
 
 
 def bits(double):
@@ -40,9 +42,13 @@ def every_answer(p):
         yield ask(kind, i, p)
         for mode in (0, 3, 4, LARGEST):
             yield ask(value, i, mode, p)
+        for m in (0, 1, 5, 6, LARGEST):
+            yield ask(turn, i, m, p)
     for i, j in itertools.product(places, repeat=2):
         yield ask(level, i, j, p)
         yield ask(side, i, j, p)
+        for k in (0, LARGEST):
+            yield ask(along, i, j, k, p)
 
 
 def how_many_used(op):

@@ -7,12 +7,13 @@ length 1, circles with a radius), and what is nearer to 0 than ever a drawing of
 import collections
 import decimal
 import fractions
+import functools
 import math
 import random
 import struct
 import unittest
 
-from rulercircle.desk import kind, level, side, value
+from rulercircle.desk import along, kind, level, side, turn, value
 from tests.helper import CIRCLE, INFINITE, LINE, MINUS, NUMBER, POINT, bits, how_many_used, weight
 
 D = decimal.Decimal
@@ -37,6 +38,23 @@ MADE_OF = {
     17: (POINT, POINT),
 }
 MAKES = {6: POINT, 9: LINE, 10: CIRCLE, 11: CIRCLE, 12: POINT, 13: POINT, 14: POINT, 15: POINT, 16: POINT}
+
+
+@functools.cache
+def edge_of_turn(pieces, digits):
+    """The direction of so many 32nds of a turn."""
+    low, high = (D(1), D(0)), (D(0), D(1))
+    with decimal.localcontext(decimal.Context(prec=digits)):
+        for size in (4, 2, 1):
+            # Halfway between two directions of length 1 lies their sum.
+            half = low[0] + high[0], low[1] + high[1]
+            length = (half[0] ** 2 + half[1] ** 2).sqrt()
+            half = half[0] / length, half[1] / length
+            low, high = (half, high) if pieces & size else (low, half)
+        x, y = low
+        for _ in range(pieces // 8):
+            x, y = -y, x
+    return x, y
 
 
 class CannotBe(Exception):
@@ -166,6 +184,20 @@ class Decimals:
             return 1 + self.sign(size[0] * (b[1] - y) - size[1] * (b[0] - x))
         return 1 + self.sign(size - ((b[0] - x) ** 2 + (b[1] - y) ** 2).sqrt())
 
+    def along(self, line, a, b):
+        u = line[1]
+        return 1 + self.sign(u[0] * (a[0] - b[0]) + u[1] * (a[1] - b[1]))
+
+    def turn(self, line):
+        """In 32nds."""
+        u = line[1]
+        far = math.atan2(u[1], u[0]) / math.tau * 32
+        edge = round(far)
+        if abs(far - edge) > 1e-6:
+            return math.floor(far) % 32
+        x, y = edge_of_turn(edge % 32, self.context.prec)
+        return (edge if self.sign(x * u[1] - y * u[0]) >= 0 else edge - 1) % 32
+
     def doubles(self, x):
         """The bits by modes 0 to 3."""
         with decimal.localcontext(self.context):
@@ -289,12 +321,21 @@ class Grown:
             self.told(level, self.some(NUMBER), self.some(NUMBER))
             self.told(level, self.some(POINT), self.some(POINT))
             self.told(side, self.some(LINE, CIRCLE), self.some(POINT))
+            self.told(along, self.some(LINE), self.some(POINT), self.some(POINT))
+            self.turn(self.some(LINE))
 
     def told(self, call, *steps):
         if None not in steps:
             wanted = self.decimals.told(call.__name__, *[self.things[step] for step in steps])
             self.test.assertEqual(call(*steps, self.p), [wanted], (call.__name__, steps, self.p))
             self.answers[call.__name__, wanted] += 1
+
+    def turn(self, line):
+        if line is not None:
+            wanted = self.decimals.told("turn", self.things[line])
+            for m in range(1, 6):
+                self.test.assertEqual(turn(line, m, self.p), [0, 1, wanted >> (5 - m)], (line, m, self.p))
+            self.answers["turn", wanted] += 1
 
     def point(self, step):
         if len(self.kinds) < 31:
@@ -330,9 +371,9 @@ class Many(unittest.TestCase):
         # Else the drawings would be too plain to tell much.
         self.assertGreater(roots, 60)
         self.assertGreater(refused, 1000)
-        for call, most in (("level", 2), ("side", 2)):
+        for call, most in (("level", 2), ("side", 2), ("along", 2), ("turn", 31)):
             for answer in range(most + 1):
-                self.assertGreater(answers[call, answer], 100, call)
+                self.assertGreater(answers[call, answer], 200 // most, call)
 
     def test_heavy_ones(self):
         near = 0

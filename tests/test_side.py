@@ -3,12 +3,10 @@
 import unittest
 
 from rulercircle.desk import level, side
-from tests.helper import LARGEST, Sheet, ask, two_of_each
+from tests.helper import DIRECTIONS, LARGEST, Sheet, ask, two_of_each
 
 RIGHT, ON, LEFT = [0], [1], [2]
 OUT, WITHIN = [0], [2]
-
-DIRECTIONS = [(x, y) for x in range(-3, 4) for y in range(-3, 4) if (x, y) != (0, 0)]
 
 
 def told(sign):
