@@ -2,7 +2,9 @@
 
 from rulercircle.doubles import MOST_MODE, bits_of
 from rulercircle.drawing import Drawing
-from rulercircle.steps import CIRCLE, LINE, NUMBER, POINT, count_steps, kind_of, makes
+from rulercircle.meetings import chord_common, circles_common, lines_common
+from rulercircle.rounds import hull_corners
+from rulercircle.steps import CIRCLE, LINE, NUMBER, POINT, count_steps, kind_of, makes, places_right
 from rulercircle.telling import along_sign, are_one, left_sign, number_sign, within_sign
 from rulercircle.turning import LEAST_HALVINGS, MOST_HALVINGS, pieces_of_turn
 
@@ -63,3 +65,28 @@ def turn(i, m, p):
     if not makes(p, i, LINE) or not LEAST_HALVINGS <= m <= MOST_HALVINGS:
         return [-6]
     return [0, 1, pieces_of_turn(drawing.tower, drawing.things[i], m)]
+
+
+def meets(i, j, p):
+    drawing = Drawing(p)
+    if drawing.refused:
+        return drawing.refused
+    if makes(p, i, LINE) and makes(p, j, LINE):
+        return [lines_common(drawing.tower, drawing.things[i], drawing.things[j])]
+    if makes(p, i, LINE) and makes(p, j, CIRCLE):
+        return [chord_common(drawing.tower, drawing.things[i], drawing.things[j])]
+    if makes(p, i, CIRCLE) and makes(p, j, LINE):
+        return [chord_common(drawing.tower, drawing.things[j], drawing.things[i])]
+    if makes(p, i, CIRCLE) and makes(p, j, CIRCLE):
+        return [circles_common(drawing.tower, drawing.things[i], drawing.things[j])]
+    return [-6]
+
+
+def hull(p, s):
+    drawing = Drawing(p)
+    if drawing.refused:
+        return drawing.refused
+    if not places_right(p, s, 1):
+        return [-6]
+    corners = hull_corners(drawing.tower, [drawing.things[place] for place in s])
+    return [len(corners), len(corners)] + corners

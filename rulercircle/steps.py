@@ -4,6 +4,8 @@ MOST_STEPS = 32
 MOST_ROOTS = 3
 MOST_WEIGHT = 8192
 MOST_SIZE = 9999
+MOST_PLACES = 16
+MOST_TOGETHER = 16384
 
 NUMBER = 0
 POINT = 1
@@ -111,3 +113,19 @@ def first_wrong(p):
         if roots > MOST_ROOTS or weights[step] > MOST_WEIGHT:
             return step
     return None
+
+
+def weights_of(p):
+    """The weights of all steps, if none is told wrong."""
+    weights = []
+    for step in range(count_steps(p)):
+        weights.append(weight_of(p, step, weights))
+    return weights
+
+
+def places_right(p, s, least):
+    """Whether s has places of points, not fewer than the least nor too many, and not too heavy together."""
+    if not least <= len(s) <= MOST_PLACES or not all([makes(p, place, POINT) for place in s]):
+        return False
+    weights = weights_of(p)
+    return sum([weights[place] for place in s]) <= MOST_TOGETHER

@@ -4,7 +4,7 @@ import copy
 import itertools
 import struct
 
-from rulercircle.desk import along, kind, level, side, turn, value
+from rulercircle.desk import along, hull, kind, level, meets, side, turn, value
 
 NUMBER, POINT, LINE, CIRCLE = 0, 1, 2, 3
 
@@ -47,8 +47,11 @@ def every_answer(p):
     for i, j in itertools.product(places, repeat=2):
         yield ask(level, i, j, p)
         yield ask(side, i, j, p)
+        yield ask(meets, i, j, p)
         for k in (0, LARGEST):
             yield ask(along, i, j, k, p)
+    for s in ([], [0], [len(p) // 4 - 1] * 3, [LARGEST] * 16, [0] * 17, [0] * 100):
+        yield ask(hull, p, s)
 
 
 def how_many_used(op):

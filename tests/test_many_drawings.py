@@ -13,7 +13,7 @@ import random
 import struct
 import unittest
 
-from rulercircle.desk import along, kind, level, side, turn, value
+from rulercircle.desk import along, hull, kind, level, meets, side, turn, value
 from tests.helper import CIRCLE, INFINITE, LINE, MINUS, NUMBER, POINT, bits, how_many_used, weight
 
 D = decimal.Decimal
@@ -188,6 +188,46 @@ class Decimals:
         u = line[1]
         return 1 + self.sign(u[0] * (a[0] - b[0]) + u[1] * (a[1] - b[1]))
 
+    def meets(self, a, b):
+        if not isinstance(a[1], tuple):
+            return self.meets_circle(b, a)
+        if not isinstance(b[1], tuple):
+            return self.meets_circle(a, b)
+        (p, u), (q, w) = a, b
+        if self.sign(u[0] * w[1] - u[1] * w[0]) != 0:
+            return 1
+        return 0 if self.sign(u[0] * (q[1] - p[1]) - u[1] * (q[0] - p[0])) else 3
+
+    def meets_circle(self, figure, circle):
+        (centre, radius), (place, size) = circle, figure
+        x, y = self.foot(figure, centre) if isinstance(size, tuple) else place
+        far = ((x - centre[0]) ** 2 + (y - centre[1]) ** 2).sqrt()
+        if isinstance(size, tuple):
+            return 1 + self.sign(radius - far)
+        if self.sign(far) == 0:
+            return 0 if self.sign(radius - size) else 3
+        return 1 + min(self.sign(radius + size - far), self.sign(far - abs(radius - size)))
+
+    def turned(self, a, b, c):
+        return self.sign((b[0] - a[0]) * (c[1] - a[1]) - (b[1] - a[1]) * (c[0] - a[0]))
+
+    def higher(self, a, b):
+        return self.sign(a[1] - b[1]) or self.sign(a[0] - b[0])
+
+    def hull(self, points):
+        """By the lower and the upper half of the hull, each from one end to the other."""
+        places = sorted(range(len(points)), key=functools.cmp_to_key(lambda i, j: self.higher(points[i], points[j])))
+        places = [i for k, i in enumerate(places) if k == 0 or self.higher(points[i], points[places[k - 1]])]
+        halves = []
+        for row in (places, places[::-1]):
+            half = []
+            for i in row:
+                while len(half) > 1 and self.turned(points[half[-2]], points[half[-1]], points[i]) <= 0:
+                    half.pop()
+                half.append(i)
+            halves += half[:-1]
+        return halves or places
+
     def turn(self, line):
         """In 32nds."""
         u = line[1]
@@ -322,13 +362,25 @@ class Grown:
             self.told(level, self.some(POINT), self.some(POINT))
             self.told(side, self.some(LINE, CIRCLE), self.some(POINT))
             self.told(along, self.some(LINE), self.some(POINT), self.some(POINT))
+            self.told(meets, self.some(LINE, CIRCLE), self.some(LINE, CIRCLE))
             self.turn(self.some(LINE))
+        for _ in range(times // 4):
+            self.hull([self.some(POINT) for _ in range(self.chance.randint(1, 16))])
 
     def told(self, call, *steps):
         if None not in steps:
             wanted = self.decimals.told(call.__name__, *[self.things[step] for step in steps])
             self.test.assertEqual(call(*steps, self.p), [wanted], (call.__name__, steps, self.p))
             self.answers[call.__name__, wanted] += 1
+
+    def hull(self, places):
+        if None not in places:
+            wanted = [-6]
+            if sum(self.weights[place] for place in places) <= 16384:
+                corners = self.decimals.told("hull", [self.things[place] for place in places])
+                wanted = [len(corners), len(corners)] + corners
+            self.test.assertEqual(hull(self.p, places), wanted, (places, self.p))
+            self.answers["hull", wanted[0]] += 1
 
     def turn(self, line):
         if line is not None:
@@ -371,9 +423,11 @@ class Many(unittest.TestCase):
         # Else the drawings would be too plain to tell much.
         self.assertGreater(roots, 60)
         self.assertGreater(refused, 1000)
-        for call, most in (("level", 2), ("side", 2), ("along", 2), ("turn", 31)):
+        for call, most in (("level", 2), ("side", 2), ("along", 2), ("turn", 31), ("meets", 3)):
             for answer in range(most + 1):
                 self.assertGreater(answers[call, answer], 200 // most, call)
+        for corners in (-6, 1, 2, 3, 4, 5):
+            self.assertGreater(answers["hull", corners], 10)
 
     def test_heavy_ones(self):
         near = 0
