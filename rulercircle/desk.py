@@ -3,7 +3,7 @@
 from rulercircle.doubles import MOST_MODE, bits_of
 from rulercircle.drawing import Drawing
 from rulercircle.meetings import chord_common, circles_common, lines_common
-from rulercircle.rounds import hull_corners
+from rulercircle.rounds import hull_corners, twice_field
 from rulercircle.steps import CIRCLE, LINE, NUMBER, POINT, count_steps, kind_of, makes, places_right
 from rulercircle.telling import along_sign, are_one, left_sign, number_sign, within_sign
 from rulercircle.turning import LEAST_HALVINGS, MOST_HALVINGS, pieces_of_turn
@@ -90,3 +90,13 @@ def hull(p, s):
         return [-6]
     corners = hull_corners(drawing.tower, [drawing.things[place] for place in s])
     return [len(corners), len(corners)] + corners
+
+
+def field(mode, p, s):
+    drawing = Drawing(p)
+    if drawing.refused:
+        return drawing.refused
+    if not places_right(p, s, 3) or mode > MOST_MODE:
+        return [-6]
+    number = twice_field(drawing.tower, [drawing.things[place] for place in s])
+    return [0, 1, bits_of(drawing.tower, number, mode)]

@@ -1,7 +1,8 @@
-"""Ways round points: the corners of their hull."""
+"""Ways round points: the corners of their hull, and the field within."""
 
 from rulercircle.figures import joining, leftness, way_ahead, way_up
 from rulercircle.telling import are_one
+from rulercircle.things import Number
 
 
 def height_sign(tower, a, b):
@@ -55,3 +56,20 @@ def hull_corners(tower, points):
         corners.append(corner)
         corner = next_corner(tower, points, places, corner)
     return corners
+
+
+def twice_field(tower, points):
+    """Twice the field within the way round them, by triangles that have the first point as a corner."""
+    first = points[0]
+    top = 0
+    bottom = tower.times(first.bottom, points[1].bottom)
+    # The bottoms of points that are in none of the triangle's corners.
+    others = 1
+    for place in range(2, len(points)):
+        last = points[place - 1]
+        point = points[place]
+        triangle = leftness(tower, joining(tower, first, last), point)
+        top = tower.mixed(top, point.bottom, triangle, others)
+        bottom = tower.times(bottom, point.bottom)
+        others = tower.times(others, last.bottom)
+    return Number(top, bottom)

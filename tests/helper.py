@@ -4,7 +4,7 @@ import copy
 import itertools
 import struct
 
-from rulercircle.desk import along, hull, kind, level, meets, side, turn, value
+from rulercircle.desk import along, field, hull, kind, level, meets, side, turn, value
 
 NUMBER, POINT, LINE, CIRCLE = 0, 1, 2, 3
 
@@ -52,6 +52,8 @@ def every_answer(p):
             yield ask(along, i, j, k, p)
     for s in ([], [0], [len(p) // 4 - 1] * 3, [LARGEST] * 16, [0] * 17, [0] * 100):
         yield ask(hull, p, s)
+        for mode in (0, 4, LARGEST):
+            yield ask(field, mode, p, s)
 
 
 def how_many_used(op):

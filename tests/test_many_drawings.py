@@ -13,7 +13,7 @@ import random
 import struct
 import unittest
 
-from rulercircle.desk import along, hull, kind, level, meets, side, turn, value
+from rulercircle.desk import along, field, hull, kind, level, meets, side, turn, value
 from tests.helper import CIRCLE, INFINITE, LINE, MINUS, NUMBER, POINT, bits, how_many_used, weight
 
 D = decimal.Decimal
@@ -228,6 +228,10 @@ class Decimals:
             halves += half[:-1]
         return halves or places
 
+    def field(self, points):
+        """By modes 0 to 3."""
+        return self.doubles(sum(a[0] * b[1] - b[0] * a[1] for a, b in zip(points, points[1:] + points[:1])))
+
     def turn(self, line):
         """In 32nds."""
         u = line[1]
@@ -365,7 +369,7 @@ class Grown:
             self.told(meets, self.some(LINE, CIRCLE), self.some(LINE, CIRCLE))
             self.turn(self.some(LINE))
         for _ in range(times // 4):
-            self.hull([self.some(POINT) for _ in range(self.chance.randint(1, 16))])
+            self.rounds([self.some(POINT) for _ in range(self.chance.randint(1, 16))])
 
     def told(self, call, *steps):
         if None not in steps:
@@ -373,14 +377,22 @@ class Grown:
             self.test.assertEqual(call(*steps, self.p), [wanted], (call.__name__, steps, self.p))
             self.answers[call.__name__, wanted] += 1
 
-    def hull(self, places):
-        if None not in places:
-            wanted = [-6]
-            if sum(self.weights[place] for place in places) <= 16384:
-                corners = self.decimals.told("hull", [self.things[place] for place in places])
-                wanted = [len(corners), len(corners)] + corners
-            self.test.assertEqual(hull(self.p, places), wanted, (places, self.p))
-            self.answers["hull", wanted[0]] += 1
+    def rounds(self, places):
+        if None in places:
+            return
+        points = [self.things[place] for place in places]
+        corners = self.decimals.told("hull", points)
+        wanted = [len(corners), len(corners)] + corners
+        fields = [[0, 1, double] for double in self.decimals.told("field", points)]
+        if sum(self.weights[place] for place in places) > 16384:
+            wanted, fields = [-6], [[-6]] * 4
+        self.test.assertEqual(hull(self.p, places), wanted, (places, self.p))
+        self.answers["hull", wanted[0]] += 1
+        if len(places) < 3:
+            fields = [[-6]] * 4
+        for mode in range(4):
+            self.test.assertEqual(field(mode, self.p, places), fields[mode], (mode, places, self.p))
+        self.answers["field", len({tuple(answer) for answer in fields})] += 1
 
     def turn(self, line):
         if line is not None:
@@ -428,6 +440,9 @@ class Many(unittest.TestCase):
                 self.assertGreater(answers[call, answer], 200 // most, call)
         for corners in (-6, 1, 2, 3, 4, 5):
             self.assertGreater(answers["hull", corners], 10)
+        # Fields that are doubles, and that aren't.
+        for doubles in (1, 2):
+            self.assertGreater(answers["field", doubles], 100)
 
     def test_heavy_ones(self):
         near = 0
