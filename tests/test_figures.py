@@ -58,6 +58,17 @@ class Numbers(Figures):
         self.number_is(sheet, sheet.minus(sheet.over(one, sheet.minus(root, one)), root), 1.0)
         self.number_is(sheet, sheet.plus(sheet.over(one, sheet.minus(one, root)), root), -1.0)
 
+    def test_quotients_of_roots_below_zero(self):
+        """root 2 / -2 is -root (1 / 2), and (1 - root 2) / (root 2 - 1) is -1."""
+        sheet = Sheet()
+        one, root = sheet.number(1), sheet.root_of(2)
+        part = sheet.over(root, sheet.number(-2))
+        self.assertEqual(value(part, 0, sheet.p), [0, 1, bits(-(0.5**0.5))])
+        square = sheet.times(part, part)
+        self.number_is(sheet, sheet.plus(square, square), 1.0)
+        self.number_is(sheet, sheet.over(sheet.minus(one, root), sheet.minus(root, one)), -1.0)
+        self.number_is(sheet, sheet.over(sheet.minus(root, one), sheet.minus(one, root)), -1.0)
+
     def test_distance(self):
         sheet = Sheet()
         first = sheet.point(1, 2)

@@ -136,6 +136,50 @@ class Moved(unittest.TestCase):
         self.assertEqual(field(3, there.p, laid)[2], 4621819117588971520)
 
 
+class NumbersToldOtherwise(unittest.TestCase):
+    """Coordinates v told as v r / r, so that tops and bottoms are of roots, or below 0."""
+
+    ROWS = ([(0, 0), (2, 1), (1, 2), (0, 1)], [(1, 1), (-1, 0), (1, -1), (0, 1)])
+
+    def told(self, rows, factor):
+        sheet = Sheet()
+        by = factor(sheet)
+        numbers = {}
+        for v in sorted({v for row in rows for v in row}):
+            numbers[v] = sheet.over(sheet.times(sheet.number(v), by), by)
+        return figures(sheet, [sheet.at(numbers[x], numbers[y]) for x, y in rows])
+
+    def factors(self):
+        yield lambda sheet: sheet.root_of(2)
+        yield lambda sheet: sheet.number(-7)
+        yield lambda sheet: sheet.plus(sheet.number(1), sheet.root_of(2))
+        yield lambda sheet: sheet.minus(sheet.number(1), sheet.root_of(2))
+
+    def test_all_is_told_alike(self):
+        for rows in self.ROWS:
+            here = plain(rows)
+            for factor in self.factors():
+                there = self.told(rows, factor)
+                self.assertEqual(kind(0, there.p), [0])
+                self.assertEqual(all_told(here), all_told(there))
+                self.assertEqual(turns_told(here), turns_told(there))
+                points = [steps_of(sheet, POINT)[:4] for sheet in (here, there)]
+                self.assertEqual(hull(here.p, points[0]), hull(there.p, points[1]))
+                for mode in range(4):
+                    self.assertEqual(field(mode, here.p, points[0]), field(mode, there.p, points[1]))
+
+    def test_coordinates_of_meetings(self):
+        """Of all points, so far as they aren't too heavy for one more step."""
+        for rows in self.ROWS:
+            here = plain(rows)
+            for factor in self.factors():
+                there = self.told(rows, factor)
+                for i, j in zip(steps_of(here, POINT), steps_of(there, POINT)):
+                    for op in (7, 8):
+                        wanted = value(len(here.steps), 0, here.p + [op, i, 0, 0])
+                        self.assertEqual(value(len(there.steps), 0, there.p + [op, j, 0, 0]), wanted)
+
+
 class OneByATheorem(unittest.TestCase):
     """B3: a point come to in two ways is told one with itself by every call."""
 
